@@ -1,0 +1,1 @@
+"""Deathnotes: things lent across houses by handles."""
