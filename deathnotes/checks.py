@@ -34,10 +34,15 @@ def check_worth(worth):
         raise BadWorth("no number from 0 to 999")
 
 
+def is_handle(value, many):
+    """Tell whether this can be a handle among so many houses, whether its thing was made or not."""
+    if not isinstance(value, tuple) or len(value) != 2:
+        return False
+    house, thing = value
+    return is_below(house, many) and is_below(thing, MOST_THINGS)
+
+
 def check_handle(handle, many):
-    """Refuse what cannot be a handle among so many houses, whether its thing was made or not."""
-    if not isinstance(handle, tuple) or len(handle) != 2:
-        raise BadHandle("a handle is (house, thing)")
-    house, thing = handle
-    if not is_below(house, many) or not is_below(thing, MOST_THINGS):
-        raise BadHandle("no house or no thing has this number")
+    """Refuse what cannot be a handle among so many houses."""
+    if not is_handle(handle, many):
+        raise BadHandle("a handle is (house, thing), of a house and a thing that can be")

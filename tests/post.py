@@ -3,8 +3,11 @@
 import random
 from collections import Counter
 
-from deathnotes.errors import NoteError
+from by_hand import beyond_by_hand, unfounded_by_hand
+from deathnotes.errors import BadTables, NoteError
 from deathnotes.houses import House
+from deathnotes.notes import read, written
+from deathnotes.tables import rings, why
 
 MOST_LETTERS = 200000
 
@@ -282,6 +285,7 @@ class Post:
                 if (house, thing) not in self.swept:
                     self.test.assertEqual(thing in self.links[house], (house, thing) in had, (house, thing))
         self.look_at_orders()
+        self.look_at_tables()
 
     def look_at_gives(self):
         sure = Counter((to, handle) for giver, handle, to in self.given if giver in self.up)
@@ -314,10 +318,41 @@ class Post:
             last = self.lasts[handle] if stands or handle in self.swept else None
             self.test.assertTrue(one_order(worth, done, maybe, last), (handle, worth, done, maybe, last))
 
-    # What rings are, by the test's own way.
+    # Tables and rings.
+
+    def tables(self):
+        """Tell the tables of all houses, None for one that died."""
+        return [house.table() if number in self.up else None for number, house in enumerate(self.houses)]
+
+    def look_at_tables(self):
+        """Look at what the tables at rest tell: of what stands they tell what is come to, and by which row."""
+        tables = self.tables()
+        beyond, unfounded = beyond_by_hand(tables), unfounded_by_hand(tables)
+        # Others keep their units of what was swept; else the tables at rest are such.
+        self.test.assertTrue(unfounded is None or self.swept)
+        if beyond is not None or unfounded is not None:
+            with self.test.assertRaises(BadTables) as caught:
+                rings(tables)
+            self.test.assertEqual(caught.exception.number, unfounded if beyond is None else beyond)
+            return
+        found = self.come_to()
+        standing = [(house, thing) for house in self.up for thing in self.links[house]]
+        self.test.assertEqual(rings(tables), sorted(set(standing) - found))
+        for handle in standing:
+            self.look_at_row(handle, why(tables, handle), found)
+        self.test.assertEqual(read(written(tables)), tables)
+
+    def look_at_row(self, handle, row, found):
+        """Look whether each step of a row is a unit that is had."""
+        self.test.assertEqual(row is not None, handle in found)
+        if row is not None:
+            self.test.assertGreater(self.units[row[0]][row[1]], 0)
+            for (owner, thing), other in zip(row[1:], row[2:]):
+                self.test.assertGreater(self.links[owner][thing][other], 0)
+            self.test.assertEqual(row[-1], handle)
 
     def come_to(self):
-        """Tell the handles of the things that are come to from houses that are up."""
+        """Tell the handles of the things that are come to from houses that are up, by the test's own count."""
         found = set()
         ahead = [handle for house in self.up for handle in +self.units[house]]
         while ahead:
@@ -328,19 +363,26 @@ class Post:
             ahead.extend(+self.links[owner][thing])
         return found
 
-    def sweep_rings(self):
-        """Let each house that is up sweep its own things that are not come to."""
+    def sweep_rings(self, order=None, mess=None):
+        """At rest, let each house sweep what rings tells of its own; tell of how many.
+
+        The houses sweep in this order, and behind that something may be
+        done with the letters, ahead of the calm.
+        """
+        told = rings(self.tables())
         found = self.come_to()
         units = [+had for had in self.units]
-        for house in list(self.up):
-            rest = [thing for thing in self.links[house] if (house, thing) not in found]
-            if rest:
-                self.sweep(house, rest)
+        for house in order or list(self.up):
+            self.sweep(house, [thing for owner, thing in told if owner == house])
+        if mess:
+            mess()
         self.calm()
         for house in self.up:
             self.test.assertEqual({(house, thing) for thing in self.links[house]},
                                   {handle for handle in found if handle[0] == house})
             self.test.assertEqual(+self.units[house], units[house])
+        self.test.assertEqual(rings(self.tables()), [])
+        return len(told)
 
     def picture(self):
         """Tell all that the houses that are up tell of themselves."""
@@ -458,6 +500,17 @@ class Run:
             units = +self.post.units[house]
             things = [thing for thing in sorted(self.post.links[house]) if (house, thing) not in units]
             self.post.sweep(house, self.chance.sample(things, self.chance.randint(0, len(things))))
+
+    def mess(self):
+        """Give turns, and bring, double and lose letters for a while."""
+        for _ in range(20):
+            deed = self.chance.choice([self.turn, self.bring, self.bring, self.again, self.lose])
+            deed(self.chance.choice(self.post.up))
+
+    def sweep_rings(self):
+        """Let houses sweep rings, in whatever order and with whatever happens to the letters."""
+        order = self.chance.sample(self.post.up, len(self.post.up))
+        return self.post.sweep_rings(order, self.mess)
 
     def run(self, steps):
         """Do deeds, let it be calm, and bring late letters, which change nothing."""

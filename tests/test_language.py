@@ -1,8 +1,11 @@
-"""What LANGUAGE.md says of files, lines, functions, signs and imports (L1, L2, L10, L14)."""
+"""What LANGUAGE.md says of files, lines, functions, signs and imports (L1, L2, L10, L14), and the interface's names."""
 
 import ast
+import inspect
 import pathlib
 import unittest
+
+from deathnotes import houses, notes, tables
 
 FOLDER = pathlib.Path(__file__).resolve().parent.parent / "deathnotes"
 
@@ -36,6 +39,25 @@ class Language(unittest.TestCase):
                 self.assertNotIsInstance(node, ast.Import, path)
                 if isinstance(node, ast.ImportFrom):
                     self.assertTrue(node.module.startswith("deathnotes."), (path, node.module))
+
+
+class Interface(unittest.TestCase):
+    def test_functions_are_defined_in_their_files(self):
+        for module, name, handed in [(tables, "rings", ["tables"]), (tables, "why", ["tables", "handle"]),
+                                     (notes, "written", ["tables"]), (notes, "read", ["text"])]:
+            function = getattr(module, name)
+            self.assertEqual(function.__module__, module.__name__)
+            self.assertEqual(list(inspect.signature(function).parameters), handed)
+
+    def test_methods_are_defined_in_the_house_itself(self):
+        self.assertEqual(houses.House.__module__, "deathnotes.houses")
+        for name, handed in {
+                "__init__": ["number", "many"], "make": ["worth"], "count": ["handle"], "give": ["handle", "to"],
+                "drop": ["handle"], "sweep": ["things"], "died": ["other"], "bring": ["letter"], "turn": [],
+                "link": ["thing", "handle"], "unlink": ["thing", "handle"], "watch": ["handle"],
+                "call": ["handle", "number"], "answers": [], "notes": [], "things": [], "table": []}.items():
+            self.assertIn(name, vars(houses.House))
+            self.assertEqual(list(inspect.signature(getattr(houses.House, name)).parameters), ["self", *handed])
 
 
 if __name__ == "__main__":
